@@ -1,0 +1,1 @@
+"""Pilots: who goes, and who mustn't."""
