@@ -36,6 +36,13 @@ FAULTY = -2
 MISSING = -3
 
 
+class NoSuchCall(ValueError):
+    """The list has a call that isn't there."""
+
+    def __init__(self, number):
+        self.number = number
+
+
 class Call:
     """A call: its number, its whole numbers, its text, and where the list goes on behind it."""
 
@@ -52,6 +59,8 @@ def has_text(number):
 
 def call_at(calls, place):
     number = calls[place]
+    if number not in SHAPES:
+        raise NoSuchCall(number)
     behind = place + 1 + SHAPES[number][0]
     numbers = calls[place + 1:behind]
     if not has_text(number):
@@ -85,7 +94,9 @@ def text_answer(hall, call):
         return choose_call(hall, call.told)
     if call.number == TAKE:
         return take_call(hall, call.told)
-    return give_call(hall, call.numbers[0], call.told)
+    if call.number == GIVE:
+        return give_call(hall, call.numbers[0], call.told)
+    raise NoSuchCall(call.number)
 
 
 def plain_answer(hall, call):
@@ -95,7 +106,9 @@ def plain_answer(hall, call):
         return turn_call(hall)
     if call.number == NAME:
         return name_call(hall, call.numbers[0])
-    return entry_call(hall, call.numbers[0])
+    if call.number == ENTRY:
+        return entry_call(hall, call.numbers[0])
+    raise NoSuchCall(call.number)
 
 
 def answer(hall, call):

@@ -2,7 +2,7 @@
 
 import unittest
 
-from pilothall.pilots import answers
+from pilothall.pilots import NoSuchCall, answers
 from tests.helper import (
     CHOOSE, ENTRY, GIVE, HARBOUR, NAME, PORT, ROSTER, SHIP, TAKE, TEXT, TURN, WHY, as_bytes, crew, flat, free_rules, job,
     last, rules, talk,
@@ -42,6 +42,10 @@ class Lists(unittest.TestCase):
     def test_numbers_of_texts_are_no_calls(self):
         told = flat([(PORT, [1, 2, 3]), (PORT, [9, 10, 10]), (TURN,)])
         self.assertEqual(answers(told), [3, -2, 1, 0, 3, -2, 2, 3, 1, -3])
+
+    def test_a_call_that_is_not_there(self):
+        for number in (0, 21, 999):
+            self.assertRaises(NoSuchCall, answers, [number])
 
     def test_what_is_handed_in_stays(self):
         told = flat(ALL)

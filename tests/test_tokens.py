@@ -1,5 +1,6 @@
 """Tokens, alone and in a text."""
 
+import calendar
 import datetime
 import unittest
 
@@ -131,6 +132,13 @@ class Days(unittest.TestCase):
         self.assertEqual(tokens("2024-02-29")[0][0], DAY)
         for text in ("1900-02-29", "2100-02-29", "2023-02-29", "2024-02-30"):
             self.assertEqual(tokens(text), [(NONE, 0)])
+
+    def test_the_day_behind_each_months_last(self):
+        for year in (1900, 2000, 2023, 2199):
+            for month in range(1, 13):
+                length = calendar.monthrange(year, month)[1]
+                self.assertEqual(tokens(f"{year}-{month:02}-{length}")[0][0], DAY)
+                self.assertEqual(tokens(f"{year}-{month:02}-{length + 1}"), [(NONE, 0)])
 
     def test_no_such_day(self):
         for text in ("1899-12-31", "2200-01-01", "2020-00-10", "2020-13-10", "2020-04-31", "2020-04-00", "2020-01-32",
