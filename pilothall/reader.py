@@ -84,7 +84,7 @@ class Reader:
         return name
 
     def read_new_name(self, names, most):
-        """A name that isn't among these; they are the most that there may be."""
+        """A name that isn't among these, of which there may be so many."""
         name = self.name_here()
         if name in names:
             self.refuse(TOLD_TWICE)
