@@ -1,13 +1,14 @@
-"""A job's text."""
+"""A job's text, jobs' texts."""
 
 from pilothall.days import moment_text
 from pilothall.printed import row_text, sentence
-from pilothall.reader import Reader
+from pilothall.reader import TOO_MANY, Reader
 from pilothall.ships import read_ship, ship_text
 from pilothall.tokens import SEMICOLON
 
 FIRST_JOB_DAY = 1
 MOST_JOB_MINUTES = 2880
+MOST_JOBS = 6
 
 
 class Job:
@@ -38,6 +39,17 @@ def read_job_text(told, legs):
     job = read_job(reader, legs)
     reader.expect_end()
     return job
+
+
+def read_jobs_text(told, legs):
+    """The jobs, one at least, that a text tells one behind another."""
+    reader = Reader(told)
+    jobs = []
+    while len(jobs) == 0 or not reader.is_at_end():
+        if len(jobs) >= MOST_JOBS and reader.is_at_word("job"):
+            reader.refuse(TOO_MANY)
+        jobs.append(read_job(reader, legs))
+    return jobs
 
 
 def job_text(job):

@@ -2,8 +2,9 @@
 
 from pilothall.faults import Fault
 from pilothall.halls import (
-    Hall, choose_call, entry_call, give_call, name_call, port_call, roster_call, take_call, text_call, turn_call,
-    why_call,
+    Hall, cancel_call, choose_call, duty_call, entry_call, give_call, hand_call, judge_call, least_call, load_call,
+    log_call, name_call, nights_call, port_call, roster_call, swap_call, take_call, text_call, turn_call, why_call,
+    work_call,
 )
 
 PORT = 1
@@ -16,6 +17,16 @@ CHOOSE = 7
 TAKE = 8
 GIVE = 9
 ENTRY = 10
+CANCEL = 11
+SWAP = 12
+HAND = 13
+WORK = 14
+DUTY = 15
+NIGHTS = 16
+JUDGE = 17
+LEAST = 18
+LOG = 19
+LOAD = 20
 
 # Of each call: how many whole numbers it has, and its text's greatest length (0: it has no text).
 SHAPES = {
@@ -29,9 +40,19 @@ SHAPES = {
     8: (0, 1024),
     9: (1, 1024),
     10: (1, 0),
+    11: (1, 0),
+    12: (2, 0),
+    13: (2, 0),
+    14: (3, 0),
+    15: (2, 0),
+    16: (2, 0),
+    17: (0, 16384),
+    18: (0, 4096),
+    19: (0, 0),
+    20: (0, 16384),
 }
 
-TOO_LONG = -1
+OUT_OF_MEASURE = -1
 FAULTY = -2
 MISSING = -3
 
@@ -70,7 +91,10 @@ def call_at(calls, place):
     return Call(number, numbers, calls[first:behind], behind)
 
 
-def is_too_long(call):
+def is_out_of_measure(call):
+    """Is its text too long, or, of work, the second minute before the first?"""
+    if call.number == WORK:
+        return call.numbers[2] < call.numbers[1]
     return has_text(call.number) and len(call.told) > SHAPES[call.number][1]
 
 
@@ -96,24 +120,45 @@ def text_answer(hall, call):
         return take_call(hall, call.told)
     if call.number == GIVE:
         return give_call(hall, call.numbers[0], call.told)
+    if call.number == JUDGE:
+        return judge_call(hall, call.told)
+    if call.number == LEAST:
+        return least_call(hall, call.told)
+    if call.number == LOAD:
+        return load_call(hall, call.told)
     raise NoSuchCall(call.number)
 
 
 def plain_answer(hall, call):
+    numbers = call.numbers
     if call.number == TEXT:
         return text_call(hall)
     if call.number == TURN:
         return turn_call(hall)
     if call.number == NAME:
-        return name_call(hall, call.numbers[0])
+        return name_call(hall, numbers[0])
     if call.number == ENTRY:
-        return entry_call(hall, call.numbers[0])
+        return entry_call(hall, numbers[0])
+    if call.number == CANCEL:
+        return cancel_call(hall, numbers[0])
+    if call.number == SWAP:
+        return swap_call(hall, numbers[0], numbers[1])
+    if call.number == HAND:
+        return hand_call(hall, numbers[0], numbers[1])
+    if call.number == WORK:
+        return work_call(hall, numbers[0], numbers[1], numbers[2])
+    if call.number == DUTY:
+        return duty_call(hall, numbers[0], numbers[1])
+    if call.number == NIGHTS:
+        return nights_call(hall, numbers[0], numbers[1])
+    if call.number == LOG:
+        return log_call(hall)
     raise NoSuchCall(call.number)
 
 
 def answer(hall, call):
-    if is_too_long(call):
-        return [TOO_LONG]
+    if is_out_of_measure(call):
+        return [OUT_OF_MEASURE]
     if is_missing(hall, call.number):
         return [MISSING]
     if not has_text(call.number):

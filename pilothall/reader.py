@@ -60,9 +60,12 @@ class Reader:
         if not self.took_sign(sign):
             self.refuse(CANT_STAND)
 
+    def is_at_word(self, word):
+        return self.token.form == WORD and self.token.value == word
+
     def took_word(self, word):
         """Goes on behind the word if it stands there; tells whether it did."""
-        if self.token.form != WORD or self.token.value != word:
+        if not self.is_at_word(word):
             return False
         self.advance()
         return True

@@ -19,12 +19,13 @@ class Work:
 
 
 class Duty:
-    """A duty so far: its first work's beginning, its latest end, whether one of its works is at a night."""
+    """A duty so far: its first work's beginning, its latest end, whether it is at a night, how many works it has."""
 
     def __init__(self, begin):
         self.begin = begin
         self.end = begin
         self.has_night = False
+        self.work_count = 0
 
 
 def job_work(job, rules):
@@ -52,6 +53,15 @@ def nights_of(work, rules):
     return [day for day in range(first, last + 1) if is_at_night(work, day, rules)]
 
 
+def worked_nights(works, rules):
+    """The days at whose nights there's work, as a dict of True."""
+    worked = {}
+    for work in works:
+        for day in nights_of(work, rules):
+            worked[day] = True
+    return worked
+
+
 def nights_in_row(worked, day):
     """How many nights in a row, the last of them that day's, are among the worked ones."""
     count = 0
@@ -73,6 +83,23 @@ def duty_for(duty, work, rules):
     return duty
 
 
+def duty_with(duty, work, rules):
+    """The duty that the work is of, the work with it. None stands for no duty so far."""
+    own = duty_for(duty, work, rules)
+    own.end = max(own.end, work.end)
+    own.has_night = own.has_night or len(nights_of(work, rules)) > 0
+    own.work_count += 1
+    return own
+
+
+def last_duty(works, rules):
+    """The duty of the last of these works, which stand in order; None if there are none."""
+    duty = None
+    for work in works:
+        duty = duty_with(duty, work, rules)
+    return duty
+
+
 def is_in_leave(work, leaves):
     for leave in leaves:
         if work.begin < leave.end and work.end > leave.begin:
@@ -91,9 +118,9 @@ def minutes_within(work, begin, end):
     return max(min(work.end, end) - max(work.begin, begin), 0)
 
 
-def minutes_up_to(end, works):
-    """The works' minutes in the 7 days up to that end."""
-    return sum([minutes_within(work, end - WEEK_MINUTES, end) for work in works])
+def minutes_between(works, begin, end):
+    """The works' minutes between these two; works that lap count each."""
+    return sum([minutes_within(work, begin, end) for work in works])
 
 
 def has_too_many_nights(nights, worked, rules):
@@ -110,9 +137,7 @@ def wrong_with_each(works, leaves, rules):
     worked = {}
     for count, work in enumerate(works):
         nights = nights_of(work, rules)
-        duty = duty_for(duty, work, rules)
-        duty.end = max(duty.end, work.end)
-        duty.has_night = duty.has_night or len(nights) > 0
+        duty = duty_with(duty, work, rules)
         for day in nights:
             worked[day] = True
         kinds = []
@@ -122,7 +147,7 @@ def wrong_with_each(works, leaves, rules):
             kinds.append(LAPS)
         if duty.end - duty.begin > rules.duty:
             kinds.append(DUTY_TOO_LONG)
-        if minutes_up_to(work.end, works[:count + 1]) > rules.week:
+        if minutes_between(works[:count + 1], work.end - WEEK_MINUTES, work.end) > rules.week:
             kinds.append(WEEK_TOO_FULL)
         if has_too_many_nights(nights, worked, rules):
             kinds.append(TOO_MANY_NIGHTS)

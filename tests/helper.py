@@ -1,10 +1,15 @@
-"""What the tests share: calls written shortly, texts to call with, faults marked in a text."""
+"""What the tests share: calls written shortly, texts to call with, faults marked in a text, work and rest as a slow
+model that follows the document's words."""
 
 import functools
 
 from pilothall.pilots import answers
 
 PORT, ROSTER, TEXT, TURN, NAME, WHY, CHOOSE, TAKE, GIVE, ENTRY = range(1, 11)
+CANCEL, SWAP, HAND, WORK, DUTY, NIGHTS, JUDGE, LEAST, LOG, LOAD = range(11, 21)
+
+DAY = 1440
+WEEK = 10080
 
 HARBOUR = (
     "port Hafen keep 0.50 or 10 % ;\n"
@@ -82,6 +87,11 @@ def span(begin, end, legs="inner", ship=SHIP):
     return job(moment(begin), moment(end), legs, ship)
 
 
+def by(name, begin, end, legs="inner", ship=SHIP):
+    """An entry of a log's text, from one minute to another."""
+    return f"by {name} " + span(begin, end, legs, ship)
+
+
 def as_bytes(told):
     return list(told.encode("latin-1")) if isinstance(told, str) else list(told)
 
@@ -146,3 +156,86 @@ def check_read(case, before, number, texts):
     for text in texts:
         with case.subTest(text=text):
             case.assertEqual(last(*before, (number, text)), [0])
+
+
+def night_at(day, told):
+    begin = day * DAY + told["night"]
+    end = day * DAY + told["till"]
+    return (begin, end if told["till"] > told["night"] else end + DAY)
+
+
+def laps(one, other):
+    return one[0] < other[1] and one[1] > other[0]
+
+
+def nights_at(work, told):
+    days = range(work[0] // DAY - 2, work[1] // DAY + 3)
+    return {day for day in days if day >= 0 and laps(work, night_at(day, told))}
+
+
+def duties(works, told):
+    """The works of each duty."""
+    found = []
+    for work in works:
+        if found:
+            own = found[-1]
+            end = max(other[1] for other in own)
+            rest = told["night_rest"] if any(nights_at(other, told) for other in own) else told["rest"]
+            if work[0] < end + rest:
+                own.append(work)
+                continue
+        found.append([work])
+    return found
+
+
+def worked_between(works, begin, end):
+    return sum(len(range(max(work[0], begin), min(work[1], end))) for work in works)
+
+
+def longest_row(days):
+    return max((next(n for n in range(1, 999) if day + n not in days) for day in days), default=0)
+
+
+def kinds_of_last(works, leaves, told):
+    """What's wrong with the last of these works, which stand in order."""
+    work = works[-1]
+    kinds = []
+    if any(laps(work, leave) for leave in leaves):
+        kinds.append(2)
+    if any(other[1] > work[0] for other in works[:-1]):
+        kinds.append(3)
+    own = duties(works, told)[-1]
+    if max(other[1] for other in own) - own[0][0] > told["duty"]:
+        kinds.append(4)
+    if worked_between(works, work[1] - WEEK, work[1]) > told["week"]:
+        kinds.append(5)
+    days = set().union(*[nights_at(other, told) for other in works])
+    if any(all(day - back in days for back in range(told["nights"] + 1)) for day in nights_at(work, told)):
+        kinds.append(6)
+    return kinds
+
+
+def kinds_of_each(works, leaves, told):
+    return [kinds_of_last(works[:count + 1], leaves, told) for count in range(len(works))]
+
+
+def is_sound(works, leaves, told):
+    """Promise 2's right side: the works as a whole."""
+    pairs = [(one, other) for index, one in enumerate(works) for other in works[:index]]
+    if any(laps(one, other) for one, other in pairs) or any(laps(work, leave) for work in works for leave in leaves):
+        return False
+    if any(max(work[1] for work in own) - own[0][0] > told["duty"] for own in duties(works, told)):
+        return False
+    edges = [edge for work in works for edge in work]
+    if any(worked_between(works, edge - WEEK, edge) > told["week"] for edge in edges + [edge + WEEK for edge in edges]):
+        return False
+    return longest_row(set().union(*[nights_at(work, told) for work in works])) <= told["nights"]
+
+
+def some_rules(chance):
+    rest = chance.choice([0, 60, 480, 600])
+    night = chance.randrange(0, DAY)
+    return dict(
+        duty=chance.choice([300, 600, 720, 2880]), rest=rest, night=night, till=(night + chance.randrange(1, DAY)) % DAY,
+        night_rest=rest + chance.choice([0, 60, 600]), nights=chance.choice([1, 2, 3, 5]),
+        week=chance.choice([600, 1200, 2400, 10080]), before=chance.choice([0, 0, 30]), behind=chance.choice([0, 0, 45]))

@@ -4,15 +4,17 @@ import unittest
 
 from pilothall.pilots import NoSuchCall, answers
 from tests.helper import (
-    CHOOSE, ENTRY, GIVE, HARBOUR, NAME, PORT, ROSTER, SHIP, TAKE, TEXT, TURN, WHY, as_bytes, crew, flat, free_rules, job,
-    last, rules, talk,
+    CANCEL, CHOOSE, DUTY, ENTRY, GIVE, HAND, HARBOUR, JUDGE, LEAST, LOAD, LOG, NAME, NIGHTS, PORT, ROSTER, SHIP, SWAP, TAKE,
+    TEXT, TURN, WHY, WORK, as_bytes, crew, flat, free_rules, job, last, rules, talk,
 )
 
 JOB = job("2020-03-02 10:00", "2020-03-02 12:00")
 BEFORE = [(PORT, HARBOUR), (ROSTER, free_rules() + crew("AB"))]
 ALL = [
     (PORT, HARBOUR), (ROSTER, free_rules() + crew("AB")), (TEXT,), (TURN,), (NAME, 1), (WHY, 0, JOB), (CHOOSE, JOB),
-    (TAKE, JOB), (GIVE, 1, JOB), (ENTRY, 1)]
+    (TAKE, JOB), (GIVE, 1, JOB), (ENTRY, 1), (SWAP, 1, 2), (CANCEL, 1), (HAND, 2, 1), (WORK, 1, 0, 999999999),
+    (DUTY, 1, 999999999), (NIGHTS, 1, 43890), (JUDGE, "by A " + JOB + "by A " + JOB), (LEAST, JOB), (LOG,),
+    (LOAD, "by A " + JOB)]
 
 
 def padded(text, length):
@@ -68,15 +70,18 @@ class Lists(unittest.TestCase):
     def test_each_call_answers(self):
         begin = 43890 * 1440 + 600
         given = talk(*ALL)
-        self.assertEqual(given[0:2] + given[3:], [
-            [0], [0], [0, 0, 1], [0, 66], [0], [0, 0], [0, 1, 0], [0, 2], [0, 0, begin, begin + 120, begin, begin + 120, 1]])
+        self.assertEqual(given[0:2] + given[3:18] + given[19:], [
+            [0], [0], [0, 0, 1], [0, 66], [0], [0, 0], [0, 1, 0], [0, 2], [0, 0, begin, begin + 120, begin, begin + 120, 1],
+            [0], [0], [0], [0, 120], [0, begin, begin + 120, 0, 1, begin + 120], [0, 0], [0, 1, 1, 3], [0, 1, 0], [0]])
+        self.assertEqual(bytes(given[18]).decode()[1:26], "by B job 2020-03-02 10:00")
 
 
 class Lengths(unittest.TestCase):
     def test_greatest_lengths(self):
         rows = [
             ([], (PORT,), HARBOUR, 4096), (BEFORE[:1], (ROSTER,), rules(), 8192), (BEFORE, (WHY, 0), JOB, 1024),
-            (BEFORE, (CHOOSE,), JOB, 1024), (BEFORE, (TAKE,), JOB, 1024), (BEFORE, (GIVE, 0), JOB, 1024)]
+            (BEFORE, (CHOOSE,), JOB, 1024), (BEFORE, (TAKE,), JOB, 1024), (BEFORE, (GIVE, 0), JOB, 1024),
+            (BEFORE, (JUDGE,), "by A " + JOB, 16384), (BEFORE, (LEAST,), JOB, 4096), (BEFORE, (LOAD,), "by A " + JOB, 16384)]
         for before, head, text, most in rows:
             with self.subTest(head=head):
                 self.assertEqual(last(*before, (*head, padded(text, most)))[0], 0)
@@ -90,15 +95,17 @@ class Order(unittest.TestCase):
     def test_too_long_before_missing(self):
         self.assertEqual(
             talk((ROSTER, " " * 8193), (WHY, 0, " " * 1025), (CHOOSE, " " * 1025), (TAKE, " " * 1025),
-                 (GIVE, 0, " " * 1025)), [[-1]] * 5)
+                 (GIVE, 0, " " * 1025), (LEAST, " " * 4097), (WORK, 0, 1, 0)), [[-1]] * 7)
+        self.assertEqual(talk((JUDGE, " " * 16385)) + talk((LOAD, " " * 16385)), [[-1]] * 2)
+        self.assertEqual(talk((PORT, HARBOUR), (JUDGE, " " * 16385)) + talk((PORT, HARBOUR), (LOAD, " " * 16385)),
+                         [[0], [-1]] * 2)
 
     def test_missing_before_faulty(self):
-        self.assertEqual(
-            talk((ROSTER, "?"), (TEXT,), (TURN,), (NAME, 99), (WHY, 99, "?"), (CHOOSE, "?"), (TAKE, "?"), (GIVE, 99, "?"),
-                 (ENTRY, 99)), [[-3]] * 9)
-        self.assertEqual(
-            talk((PORT, HARBOUR), (TEXT,), (TURN,), (NAME, 99), (WHY, 99, "?"), (CHOOSE, "?"), (TAKE, "?"),
-                 (GIVE, 99, "?"), (ENTRY, 99))[1:], [[-3]] * 8)
+        told = [(TEXT,), (TURN,), (NAME, 99), (WHY, 99, "?"), (CHOOSE, "?"), (TAKE, "?"), (GIVE, 99, "?"), (ENTRY, 99),
+                (CANCEL, 99), (SWAP, 99, 99), (HAND, 99, 99), (WORK, 99, 0, 0), (DUTY, 99, 99), (NIGHTS, 99, 99),
+                (JUDGE, "?"), (LEAST, "?"), (LOG,), (LOAD, "?"), (JUDGE, ""), (LOAD, "")]
+        self.assertEqual(talk((ROSTER, "?"), *told), [[-3]] * 21)
+        self.assertEqual(talk((PORT, HARBOUR), *told)[1:], [[-3]] * 20)
 
     def test_a_port_is_never_missing(self):
         self.assertEqual(talk((PORT, "?"), (PORT, HARBOUR)), [[-2, 1, 0], [0]])
@@ -116,6 +123,19 @@ class Order(unittest.TestCase):
                               f"2020-03-02 {(index + 1) // 60:02}:{(index + 1) % 60:02}")) for index in range(48)]
         full = [(GIVE, 2, JOB), (GIVE, 0, told[0][2]), (GIVE, 1, JOB), (TAKE, JOB), (TAKE, "job")]
         self.assertEqual(talk(*BEFORE, *told, *full)[50:], [[-4], [-6], [-6], [-6], [-2, 2, 3]])
+
+    def test_faulty_before_what_is_wrong(self):
+        wrong = "by A " + JOB + "by A " + JOB
+        self.assertEqual(talk(*BEFORE, (LOAD, wrong + "?"), (LOAD, wrong), (LEAST, JOB * 3 + ";"), (LEAST, JOB * 3))[2:],
+                         [[-2, 1, len(wrong)], [-7, 1, 3], [-2, 2, 3 * len(JOB)], [-5]])
+
+    def test_no_such_before_one_pilots_before_may_not(self):
+        works = [(GIVE, 0, JOB), (GIVE, 1, JOB)]
+        told = [(SWAP, 1, 3), (SWAP, 3, 3), (SWAP, 1, 1), (HAND, 3, 0), (HAND, 1, 2), (HAND, 1, 0), (HAND, 1, 1)]
+        self.assertEqual(talk(*BEFORE, *works, *told)[4:], [[-4], [-4], [-5], [-4], [-4], [-5], [-7, 3]])
+
+    def test_no_such_pilot_before_no_such_work(self):
+        self.assertEqual(talk(*BEFORE, (DUTY, 2, 0), (DUTY, 1, 0))[2:], [[-4], [-5]])
 
     def test_the_text_stays_as_it_is_told(self):
         text = HARBOUR + "gauge \xe4"
