@@ -276,7 +276,7 @@ class Maker:
         return self.some([entry[0] for entry in self.model.entries] * 6 + [self.model.coming, 1, 0, 999999999])
 
     def entries(self):
-        """A pilot and a job each; half of the time nothing is wrong with them."""
+        """A pilot and a job each; mostly nothing is wrong with them."""
         names = self.model.roster.names
         sound = self.chance.random() < 0.7
         entries = []
